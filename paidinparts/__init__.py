@@ -1,0 +1,1 @@
+"""Paidinparts: money held, taken and given back in parts."""
