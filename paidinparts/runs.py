@@ -5,9 +5,12 @@ from paidinparts.sums import numbers_of, value_of
 
 
 class Course:
-    """The parts and the totals of the columns while deeds are done, one after the other."""
+    """The parts and the totals of the columns while deeds are done, one after the other.
 
-    def __init__(self, plan):
+    The totals at the beginning may come from other parts, which these deeds do not move.
+    """
+
+    def __init__(self, plan, reached):
         kinds = plan.kinds
         self._rows = {kind: rows for kind, rows, _ in kinds}
         self._targets = {
@@ -15,7 +18,7 @@ class Course:
         }
         self._bounds = plan.checks
         self._placed = []
-        self._reached = [0] * len(plan.columns)
+        self._reached = list(reached)
 
     def reached(self):
         """Return the list of the totals now."""
@@ -58,13 +61,22 @@ def moved(totals_before, amount, left, entered):
 
 def totals_along(plan, deeds):
     """Return the totals at the beginning and after each deed, as far as the deeds are a run."""
-    course = Course(plan)
+    course = Course(plan, [0] * len(plan.columns))
     along = [course.reached()]
     for deed in deeds:
         if not course.do(deed):
             return along
         along.append(course.reached())
     return along
+
+
+def end_of(plan, reached, deeds):
+    """Return the totals after deeds that begin at the totals `reached`, or None if one of them cannot be done."""
+    course = Course(plan, reached)
+    for deed in deeds:
+        if not course.do(deed):
+            return None
+    return course.reached()
 
 
 def totals_of_run(plan, run):

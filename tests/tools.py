@@ -22,6 +22,24 @@ def shop():
     return Plan(*shop_parts())
 
 
+def one_each(names):
+    """Kinds that each raise one column of the same name by 1."""
+    return [(name, [{}, {name: 1}], [("go", 0, 1)]) for name in names]
+
+
+def ladder_parts(many, up=1, down=-1):
+    """The arguments of a plan in which each check is lifted only with what the next kind brought; the last has it free.
+
+    The columns are checked, and each kind raises one column; all but the last kind lower the next column.
+    """
+    columns = ["a", "b", "c", "d", "e", "f"][:many]
+    rows = [{column: up} for column in columns]
+    for row, following in zip(rows, columns[1:]):
+        row[following] = down
+    kinds = [("kind" + column, [{}, row], [("go", 0, 1)]) for column, row in zip(columns, rows)]
+    return columns, kinds, [{column: 1} for column in columns]
+
+
 def raised(call, *args, **more):
     """The class and the value of the error that a call raises, or None."""
     try:
