@@ -27,11 +27,11 @@ def require_new_name(text, earlier):
 
 def checked_columns(columns):
     """Return a new list of the columns, or raise the first error in them."""
-    known = []
+    known = {}
     for name in columns:
         require_new_name(name, known)
-        known.append(name)
-    return known
+        known[name] = True
+    return list(known)
 
 
 def checked_rows(columns, kind, states):
@@ -46,7 +46,7 @@ def checked_rows(columns, kind, states):
 
 def checked_steps(size, steps):
     """Return a new list of the steps of a kind with `size` states, or raise the first error in them."""
-    begun = []
+    begun = {}
     for step in steps:
         name, source, target = step
         require_name(name)
@@ -54,17 +54,17 @@ def checked_steps(size, steps):
             raise InvalidStep(step)
         if (name, source) in begun:
             raise DoubleStep(step)
-        begun.append((name, source))
+        begun[(name, source)] = True
     return list(steps)
 
 
 def checked_kinds(columns, kinds):
     """Return the kinds with counts in the order of the columns, or raise the first error in them."""
-    known = []
+    known = {}
     made = []
     for name, states, steps in kinds:
         require_new_name(name, known)
-        known.append(name)
+        known[name] = True
         rows = checked_rows(columns, name, states)
         made.append((name, rows, checked_steps(len(rows), steps)))
     return made

@@ -1,62 +1,17 @@
 """Runs: lists of deeds that a plan allows, and what they come to."""
 
-from paidinparts.errors import InvalidRun
+from paidinparts.course import Course
+from paidinparts.errors import InvalidRun, PartError
 from paidinparts.sums import numbers_of, value_of
 
 
-class Course:
-    """The parts and the totals of the columns while deeds are done, one after the other.
-
-    The totals at the beginning may come from other parts, which these deeds do not move.
-    """
-
-    def __init__(self, plan, reached):
-        kinds = plan.kinds
-        self._rows = {kind: rows for kind, rows, _ in kinds}
-        self._targets = {
-            (kind, name, source): target for kind, _, steps in kinds for name, source, target in steps
-        }
-        self._bounds = plan.checks
-        self._placed = []
-        self._reached = list(reached)
-
-    def reached(self):
-        """Return the list of the totals now."""
-        return list(self._reached)
-
-    def do(self, deed):
-        """Do a deed and return True, or change nothing and return False if it cannot be done now."""
-        word, subject, detail = deed
-        if word == "new":
-            return self._new_part(subject, detail)
-        return self._do_step(subject, detail)
-
-    def _new_part(self, kind, amount):
-        if kind not in self._rows or amount < 1:
-            return False
-        self._placed.append((kind, amount, 0))
-        return True
-
-    def _do_step(self, part, name):
-        # A list would take a part below 0 as one counted from its end.
-        if not 0 <= part < len(self._placed):
-            return False
-        kind, amount, source = self._placed[part]
-        if (kind, name, source) not in self._targets:
-            return False
-        target = self._targets[(kind, name, source)]
-        rows = self._rows[kind]
-        after = moved(self._reached, amount, rows[source], rows[target])
-        if any([value_of(factors, after) < 0 for factors in self._bounds]):
-            return False
-        self._placed[part] = (kind, amount, target)
-        self._reached = after
-        return True
-
-
-def moved(totals_before, amount, left, entered):
-    """Return the totals after a part of this amount left a state with some counts and entered one with others."""
-    return [total + amount * (new - old) for total, old, new in zip(totals_before, left, entered)]
+def is_done(course, deed):
+    """Do a deed and return True, or change nothing and return False if it cannot be done now."""
+    try:
+        course.do(deed, [])
+    except PartError:
+        return False
+    return True
 
 
 def totals_along(plan, deeds):
@@ -64,7 +19,7 @@ def totals_along(plan, deeds):
     course = Course(plan, [0] * len(plan.columns))
     along = [course.reached()]
     for deed in deeds:
-        if not course.do(deed):
+        if not is_done(course, deed):
             return along
         along.append(course.reached())
     return along
@@ -74,7 +29,7 @@ def end_of(plan, reached, deeds):
     """Return the totals after deeds that begin at the totals `reached`, or None if one of them cannot be done."""
     course = Course(plan, reached)
     for deed in deeds:
-        if not course.do(deed):
+        if not is_done(course, deed):
             return None
     return course.reached()
 

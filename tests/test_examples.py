@@ -14,10 +14,10 @@ class Examples(unittest.TestCase):
         self.assertEqual(found.failed, 0)
 
     def test_the_document(self):
-        self.check_file(os.path.join(HERE, "examples.txt"), 27)
+        self.check_file(os.path.join(HERE, "examples.txt"), 47)
 
     def test_the_readme(self):
-        self.check_file(os.path.join(HERE, "..", "README.md"), 14)
+        self.check_file(os.path.join(HERE, "..", "README.md"), 47)
 
 
 if __name__ == "__main__":

@@ -29,12 +29,33 @@ ARGUMENTS = {
     ("factors", "least_factor"): ["plan", "one", "other"],
     ("least", "least_checks"): ["plan", "wish", "offered"],
     ("least", "least_bars"): ["plan", "wish"],
+    ("ready", "payments"): ["numbered", "checked"],
+    ("books", "Book"): ["plan"],
+    ("books", "SureBook"): ["plan", "wish"],
+    ("texts", "show_sum"): ["plan", "total"],
+    ("texts", "show_run"): ["deeds"],
+    ("texts", "show_plan"): ["plan"],
+    ("readings", "read_plan"): ["text"],
+    ("readings", "read_run"): ["text"],
 }
 METHODS = {
     ("plans", "Plan", "value_at"): ["self", "kind", "state", "total"],
     ("plans", "Plan", "with_checks"): ["self", "checks"],
     ("plans", "Plan", "without_steps"): ["self", "bars"],
+    ("plans", "Plan", "__eq__"): ["self", "other"],
+    ("books", "Book", "new"): ["self", "kind", "amount"],
+    ("books", "Book", "__call__"): ["self", "part", "name"],
+    ("books", "Book", "able"): ["self", "part"],
+    ("books", "Book", "write"): ["self", "deeds"],
+    ("books", "Book", "undo"): ["self"],
+    ("books", "Book", "__len__"): ["self"],
+    ("books", "Book", "__eq__"): ["self", "other"],
+    ("books", "SureBook", "__call__"): ["self", "part", "name"],
+    ("books", "SureBook", "able"): ["self", "part"],
+    ("books", "SureBook", "write"): ["self", "deeds"],
+    ("books", "SureBook", "__eq__"): ["self", "other"],
 }
+PROPERTIES = {("plans", "Plan"): ["columns", "kinds", "checks"], ("books", "Book"): ["parts", "balance", "run"]}
 
 
 def listed(place, name):
@@ -53,6 +74,11 @@ class Interface(unittest.TestCase):
         for (place, name, method), arguments in METHODS.items():
             found = vars(listed(place, name))[method]
             self.assertEqual(list(inspect.signature(found).parameters), arguments)
+
+    def test_properties(self):
+        for (place, name), told in PROPERTIES.items():
+            for attribute in told:
+                self.assertIsInstance(vars(listed(place, name))[attribute], property)
 
     def test_the_package_uses_no_clock_no_random_numbers_and_no_files(self):
         for name in sorted(os.listdir(FOLDER)):
