@@ -1,6 +1,7 @@
 """Wishes: whether a sum stays at least 0, with multipliers that show it, or with a break."""
 
-from paidinparts.layers import Layers
+from paidinparts.layers import layers_of, value_of_parts
+from paidinparts.lifts import Lift
 from paidinparts.runs import end_of
 from paidinparts.sums import numbers_of, value_of
 
@@ -13,14 +14,16 @@ def negative_of(plan, wish):
 def is_kept(plan, wish):
     """Return True if a wish is kept, otherwise False."""
     negative = negative_of(plan, wish)
-    prices, _ = Layers(plan).outcome(negative)
+    layers = layers_of(plan)
+    prices, _ = layers.outcome(layers.field.values_of(negative))
     return prices is not None
 
 
 def multipliers(plan, wish):
     """Return multipliers (factor, numbers) of a wish, or None if there are none."""
     negative = negative_of(plan, wish)
-    prices, _ = Layers(plan).outcome(negative)
+    layers = layers_of(plan)
+    prices, _ = layers.outcome(layers.field.values_of(negative))
     if prices is None:
         return None
     return prices[0], prices[1:]
@@ -35,20 +38,23 @@ def judge_multipliers(plan, wish, told):
         return False
     # What the wish is, many times, above the checks, many times: a sum itself, and nowhere below 0.
     above = [factor * wanted[at] - value_of(numbers, [check[at] for check in bounds]) for at in range(len(wanted))]
-    return all([value >= 0 for value in Layers(plan).values_of(above)])
+    layers = layers_of(plan)
+    values = layers.field.values_of(above)
+    return all([values[place] >= 0 for place in layers.open_places()])
 
 
 def broken(plan, wish):
     """Return a break (opening, round, times) of a wish, or None if it is kept."""
     negative = negative_of(plan, wish)
-    layers = Layers(plan)
-    _, parts = layers.outcome(negative)
+    layers = layers_of(plan)
+    values = layers.field.values_of(negative)
+    _, parts = layers.outcome(values)
     if parts is None:
         return None
-    lift = layers.lift_for(parts)
-    start = -layers.value_of_parts(negative, lift)
-    fall = layers.value_of_parts(negative, parts)
-    return layers.deeds(lift), layers.deeds(parts), max(0, start // fall + 1)
+    lift = Lift(layers)
+    opening = lift.parts_for(parts)
+    start, fall = -value_of_parts(values, opening), value_of_parts(values, parts)
+    return lift.deeds(opening), lift.deeds(parts), max(0, start // fall + 1)
 
 
 def judge_broken(plan, wish, told):

@@ -5,13 +5,24 @@ import itertools
 import random
 import unittest
 
-from paidinparts.least import least_bars, least_checks
+from paidinparts.least import least_bars, least_checks, least_sets
 from paidinparts.plans import Plan
 from paidinparts.wishes import is_kept
 
+from tests.test_decided_random import some_wish, uneven_ladder
 from tests.tools import all_apart, ladder_parts, one_each, raised, random_parts, random_table, shop_parts
 
 EMPTY = ([], [], [])
+# Two kinds that raise one column each by three times as much again and again, and one that goes around.
+THREES = (
+    ["a", "b"],
+    [
+        ("z", [{}, {}], [("q", 0, 1), ("p", 1, 0)]),
+        ("x", [{}, {"a": 3}, {"a": 6}, {"a": 9}], [("p", 0, 1), ("q", 1, 2), ("q", 2, 3)]),
+        ("y", [{}, {"b": 3}, {"b": 6}, {"b": 9}], [("p", 0, 1), ("q", 1, 2), ("q", 2, 3)]),
+    ],
+    [],
+)
 OFFERED = [{"held": 2, "taken": -1}, {"held": 1, "taken": -1}, {"held": 1, "taken": -2}]
 WISH = {"held": 1, "taken": -1}
 
@@ -78,6 +89,35 @@ class LeastChecks(unittest.TestCase):
 
     def test_a_check_that_closes_states(self):
         self.check_sets(free_parts(), {"taken": -1}, [{"held": -1}, WISH, {"taken": -1}], [[2], [0, 1]])
+
+    def test_a_check_that_refuses_only_what_must_be_there_first(self):
+        # Moved side by side the two kinds keep the offered check, but neither can be moved first.
+        for up, down in [(1, 1), (3, 2)]:
+            kinds = [
+                ("down", [{}, {"a": -1, "b": -1, "c": down}], [("go", 0, 1)]),
+                ("up", [{}, {"a": 1, "c": -up}], [("go", 0, 1)]),
+            ]
+            for turned in [kinds, kinds[::-1]]:
+                self.check_sets((["a", "b", "c"], turned, [{"a": 1}]), {"b": 1}, [{"c": 1}], [[0]])
+                self.check_sets((["a", "b", "c"], turned, []), {"b": 1}, [{"c": 1}, {"a": 1}], [[0, 1]])
+
+    def test_kinds_that_rise_by_threes(self):
+        offered = [{"a": 1, "b": -2}, {"a": 7, "b": -3}, {"a": 2, "b": 0}, {"a": 9, "b": -4}]
+        self.check_sets(THREES, {"a": 5, "b": -3}, offered, [[0]])
+        self.check_sets(THREES, {"a": 5, "b": -3}, offered[1:], [])
+
+    def test_levels(self):
+        chance = random.Random(15)
+        seen = set()
+        for _ in range(150):
+            columns, kinds, checks = uneven_ladder(chance)
+            wish = some_wish(chance, columns, checks)
+            own = chance.randint(0, len(checks))
+            plan, offered = Plan(columns, kinds, checks[:own]), checks[own:]
+            sets = least_of(len(offered), lambda each: is_kept(plan.with_checks([offered[at] for at in each]), wish))
+            self.assertEqual(least_checks(plan, wish, offered), sets)
+            seen.update([len(sets[0])] if sets else [])
+        self.assertGreaterEqual(len(seen), 3)
 
     def test_errors(self):
         plan = Plan(*free_parts())
@@ -149,6 +189,19 @@ class LeastBars(unittest.TestCase):
         self.check_sets(parts, {"a": 1}, [[("z", "p")], [("z", "q"), ("a", "p")]])
         self.check_sets((["a", "b"], kinds[::-1], []), {"a": 1}, [[("a", "p"), ("z", "q")], [("a", "p"), ("z", "p")]])
 
+    def test_kinds_that_rise_by_threes(self):
+        self.check_sets(THREES, {"a": 5, "b": -3}, [[("y", "p")]])
+        self.check_sets(THREES, {"a": -5, "b": -3}, [[("x", "p"), ("y", "p")]])
+
+    def test_uneven_levels(self):
+        chance = random.Random(16)
+        for _ in range(60):
+            columns, kinds, checks = uneven_ladder(chance)
+            kinds, wish = kinds[:3], some_wish(chance, columns, checks)
+            plan, pairs = Plan(columns, kinds, checks), all_bars(kinds)
+            sets = least_of(len(pairs), lambda each: is_kept(plan.without_steps([pairs[at] for at in each]), wish))
+            self.assertEqual(least_bars(plan, wish), [[pairs[at] for at in each] for each in sets])
+
     def test_levels(self):
         for many in range(1, 5):
             parts = ladder_parts(many)
@@ -177,6 +230,39 @@ class LeastBars(unittest.TestCase):
             self.assertEqual(least_bars(plan, wish), [[pairs[at] for at in each] for each in sets])
             seen.update([(len(sets) > 1, len(sets[0]))])
         self.assertGreaterEqual(len(seen), 4)
+
+
+class LeastSets(unittest.TestCase):
+    """least_sets is not part of the interface: it finds all sets, whatever it is told of those that are not enough."""
+
+    def check_sets(self, chance, many, needs):
+        """A set is enough if it has some number of each need; of a set that is not, any missed need is told."""
+        asked = []
+
+        def ask(bits):
+            asked.append(bits)
+            missed = [need for need in needs if not any(bits >> at & 1 for at in need)]
+            return sum(1 << at for at in chance.choice(missed)) if missed else None
+
+        sets = least_of(many, lambda each: all(set(need) & set(each) for need in needs))
+        self.assertEqual(least_sets(ask), sets)
+        self.assertEqual(len(asked), len(set(asked)))
+        return len(sets)
+
+    def test_few_needs(self):
+        chance = random.Random(1)
+        for needs, many in [([], 1), ([[]], 0), ([[0, 1], []], 0), ([[0], [1], [2]], 1), ([[0, 1], [1, 2], [0, 2]], 3)]:
+            self.assertEqual(self.check_sets(chance, 3, needs), many)
+
+    def test_random_needs(self):
+        chance = random.Random(2)
+        seen = set()
+        for _ in range(300):
+            many = chance.randint(0, 6)
+            sizes = [chance.randint(min(1, many), many) for _ in range(chance.randint(0, 6))]
+            needs = [chance.sample(range(many), size) for size in sizes]
+            seen.add(self.check_sets(chance, many, needs))
+        self.assertGreaterEqual(len(seen), 6)
 
 
 class NothingIsShared(unittest.TestCase):
