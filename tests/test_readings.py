@@ -1,6 +1,7 @@
 """readings.py: plans and lists of deeds from their texts; every other text is unreadable."""
 
 import random
+import re
 import string
 import time
 import unittest
@@ -16,6 +17,10 @@ from tests.tools import all_apart, random_deed, random_parts, raised, shop
 
 MOST = 10**60 - 1
 SIGNS = [chr(code) for code in range(ord(" "), ord("~") + 1) if chr(code) != chr(37)]
+NAME, INTEGER = "[a-z]{1,8}", "(?:0|-?[1-9][0-9]{0,59})"
+ROW, STEP = rf"\[(?:{INTEGER}(?:,{INTEGER})*)?\]", rf"{NAME}\({INTEGER},{INTEGER}\)"
+DEED = f"(?:new {NAME} {INTEGER}|step {INTEGER} {NAME})"
+PLAN = f"columns(?: {NAME})*(?:; kind {NAME}(?: {ROW})+(?: {STEP})*)*(?:; check {ROW})*"
 # Integers that are written so are none.
 NO_INTEGERS = ["", "-", "00", "01", "-0", "-01", "+1", "--1", "1-", "1_0", "1.0", "0x1", "1e1", "a", " 1", "1 "]
 NO_NAMES = ["", "A", "abcdefghi", "a1", "a-b", "a_b", "[", "0", "-1"]
@@ -32,22 +37,52 @@ def one_sign_off(text):
             yield text[:at] + sign + text[at + 1 :]
 
 
+def is_run_text(text):
+    """True if some list of deeds has a text, by its form alone."""
+    return re.fullmatch(f"(?:{DEED}(?:; {DEED})*)?", text) is not None
+
+
+def is_plan_text(text):
+    """True if some plan has a text: by its form, and by what would make no plan."""
+    if re.fullmatch(PLAN, text) is None:
+        return False
+    head, *sections = text.split("; ")
+    columns = head.split(" ")[1:]
+    kinds = [section.split(" ")[1:] for section in sections if section.startswith("kind")]
+    wide = all(len(re.findall(INTEGER, row)) == len(columns) for row in re.findall(ROW, text))
+    return wide and len(set(columns)) == len(columns) and are_kinds(kinds)
+
+
+def are_kinds(kinds):
+    """True if kinds, each as its name and the texts of its states and steps, stand in some plan."""
+    for _, first, *others in kinds:
+        size = 1 + len([word for word in others if word.startswith("[")])
+        steps = [word[:-1].replace("(", ",").split(",") for word in others if not word.startswith("[")]
+        if set(first) & set("123456789"):
+            return False
+        if not all(int(source) in range(size) and int(target) in range(size) for _, source, target in steps):
+            return False
+        if len({(name, source) for name, source, _ in steps}) < len(steps):
+            return False
+    return len({kind[0] for kind in kinds}) == len(kinds)
+
+
 class Read(unittest.TestCase):
     def check_unreadable(self, read, text):
         self.assertEqual(raised(read, text), ("Unreadable", text))
 
-    def check_signs_off(self, read, show, text):
-        """What is read from texts near this one has just that text; and most of them are unreadable."""
-        self.assertEqual(show(read(text)), text)
-        readable = 0
-        for near in one_sign_off(text):
-            error = raised(read, near)
-            if error is None:
-                readable += 1
-                self.assertEqual(show(read(near)), near)
-            else:
-                self.assertEqual(error, ("Unreadable", near))
-        self.assertGreater(readable, 10)
+    def check_text(self, read, show, has_text, text):
+        """A text is read if something has it, and what is read has just this text; return whether it is."""
+        if has_text(text):
+            self.assertEqual(show(read(text)), text)
+            return True
+        self.check_unreadable(read, text)
+        return False
+
+    def check_signs_off(self, read, show, has_text, text):
+        """Read a text, and all that are near to it."""
+        self.assertTrue(self.check_text(read, show, has_text, text))
+        self.assertGreater([self.check_text(read, show, has_text, near) for near in one_sign_off(text)].count(True), 10)
 
 
 class Deeds(Read):
@@ -95,7 +130,7 @@ class Deeds(Read):
 
     def test_one_sign_off(self):
         for text in ["new hold 5; step 0 ask", "step -12 a", "new a 10; new b -1"]:
-            self.check_signs_off(read_run, show_run, text)
+            self.check_signs_off(read_run, show_run, is_run_text, text)
         for sign in SIGNS:
             self.check_unreadable(read_run, sign)
 
@@ -217,7 +252,7 @@ class Plans(Read):
             "columns a b; kind k [0,0] [1,-2] go(0,1); check [1,-1]", "columns; kind k []; kind l [] go(0,0)",
             "columns a; check [10]; check [-1]",
         ]:  # fmt: skip
-            self.check_signs_off(read_plan, show_plan, text)
+            self.check_signs_off(read_plan, show_plan, is_plan_text, text)
         for near in one_sign_off("columns"):
             if near != "columns":
                 self.check_unreadable(read_plan, near)
@@ -233,11 +268,16 @@ class Plans(Read):
         pieces = ["columns", "kind", "check", "a", "k", "[0]", "[]", "[1]", "go(0,0)", "; ", " ", ";", ",", "0", "]"]
         for _ in range(3000):
             text = "columns" + "".join(chance.choice(pieces) for _ in range(chance.randint(0, 9)))
-            error = raised(read_plan, text)
-            if error is None:
-                self.assertEqual(show_plan(read_plan(text)), text)
-            else:
-                self.assertEqual(error, ("Unreadable", text))
+            self.check_text(read_plan, show_plan, is_plan_text, text)
+        found = set()
+        pieces = ["kind k [0,0]", "kind l [0,0] [1,-1]", "kind k [0,0] [0,0]", "kind m [0,1]", "check [0,7]", "check []"]
+        ends = ["", "", " go(0,0)", " go(0,1) go(1,0)"]
+        for _ in range(3000):
+            more = ["; " + chance.choice(pieces) + chance.choice(ends) for _ in range(3)]
+            text = "columns a b" + "".join(more[: chance.randint(1, 3)])
+            if self.check_text(read_plan, show_plan, is_plan_text, text):
+                found.add(text)
+        self.assertGreater(len(found), 20)
 
     def test_by_name(self):
         self.assertEqual(read_plan(text="columns a").columns, ["a"])
