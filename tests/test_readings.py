@@ -270,7 +270,8 @@ class Plans(Read):
             text = "columns" + "".join(chance.choice(pieces) for _ in range(chance.randint(0, 9)))
             self.check_text(read_plan, show_plan, is_plan_text, text)
         found = set()
-        pieces = ["kind k [0,0]", "kind l [0,0] [1,-1]", "kind k [0,0] [0,0]", "kind m [0,1]", "check [0,7]", "check []"]
+        pieces = ["kind k [0,0]", "kind k [0,0] [0,0]", "kind l [0,0] [1,-1]", "kind m [0,1]"]
+        pieces += ["check [0,7]", "check [-1,1]", "check [1]"]
         ends = ["", "", " go(0,0)", " go(0,1) go(1,0)"]
         for _ in range(3000):
             more = ["; " + chance.choice(pieces) + chance.choice(ends) for _ in range(3)]
